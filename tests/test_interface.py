@@ -1,0 +1,154 @@
+"""The interface: each name stands where the document lists it, with its arguments."""
+
+import ast
+import importlib
+import inspect
+import pathlib
+import unittest
+
+PACKAGE = pathlib.Path(__file__).resolve().parent.parent / "leastshelf"
+
+FUNCTIONS = {
+    "kinds": {
+        "kind_named": "(name)", "is_word": "(thing)", "is_plain": "(kind, thing)", "check_word": "(thing)",
+        "plain_word": "(kind, word)", "joined": "(kind, *words)", "rest": "(kind, one, other)",
+        "fresh_word": "(kind, *words)", "under": "(one, other)", "parted_words": "(one, other)",
+    },
+    "effects": {
+        "is_effect": "(kind, thing)", "normal": "(kind, effect)", "then": "(kind, *effects)",
+        "effect_on": "(kind, effect, state)", "parting_state": "(kind, one, other)", "narrowed_effect": "(kind, effect)",
+    },
+    "steps": {
+        "step": "(kind, one, other)", "running": "(kind, row)", "steps_between": "(kind, row, *, start=(False, ()))",
+        "row_letters": "(row)", "row_count": "(row)",
+    },
+    "swaps": {
+        "change_places": "(kind, one, other)", "parting_swap": "(kind, one, other)", "swallowed": "(kind, small, large)",
+        "parting_word": "(kind, small, large)", "twice_at_once": "(kind, word)", "twice_later": "(kind, word)",
+        "twice_earlier": "(kind, word)",
+    },
+    "stretches": {
+        "is_key": "(thing)", "is_stretch": "(thing)", "check_key": "(key)", "check_stretch": "(stretch, place=0)",
+        "common_stretch": "(one, other)", "lies_within": "(one, other)", "cut_at": "(stretch, border)",
+    },
+    "fields": {},
+    "overlays": {
+        "borders": "(fields)", "gaps": "(fields)", "overlay": "(fields, act, *, neutral)", "unlike": "(one, other)",
+        "key_set": "(stretches)", "union": "(one, other)", "common": "(one, other)", "without": "(one, other)",
+        "meeting": "(one, other)",
+    },
+    "batches": {
+        "is_stroke": "(thing)", "check_batch": "(kind, batch)", "touched": "(batch)", "batch_effects": "(kind, batch)",
+        "after": "(kind, one, other)", "on_store": "(kind, effects, store)", "empty_store": "()",
+        "batch_between": "(kind, one, other)", "batch_of": "(effects)", "parting_key": "(kind, one, other)",
+        "narrowed_field": "(kind, field)", "narrowed_batch": "(kind, batch)",
+    },
+    "deeds": {
+        "is_name": "(thing)", "is_deed": "(step)", "plain_step": "(kind, step, /, place=0)", "narrowed_step": "(kind, step)",
+    },
+    "leasts": {
+        "check_most": "(most)", "plain_least": "(kind, least, *, most=8)", "history_of": "(kind, least)",
+        "losses": "(kind, least)", "narrowed_least": "(kind, least)",
+    },
+    "books": {},
+    "futures": {"answers": "(book, steps)", "parting": "(one, other)", "alike": "(one, other)"},
+    "menus": {},
+    "tables": {
+        "check_table": "(table, steps)", "step_count": "(table)", "run_table": "(table, row, *, start=0)",
+        "reached": "(table)",
+    },
+    "classes": {
+        "class_numbers": "(table)", "least_table": "(table)", "parting_row": "(table, one, other)",
+        "without_steps": "(table, numbers)", "doubled": "(table, state)",
+    },
+}
+
+CLASSES = {
+    "kinds": {
+        "Kind": {"plain": "(self, word)", "rest_between": "(self, one, other)"},
+        "BagKind": {"plain": "(self, word)", "rest_between": "(self, one, other)"},
+        "SetKind": {"plain": "(self, word)"}, "HeadsKind": {"plain": "(self, word)"},
+        "FirstKind": {"plain": "(self, word)"},
+        "TailsKind": {"plain": "(self, word)", "rest_between": "(self, one, other)"},
+        "LastKind": {"plain": "(self, word)", "rest_between": "(self, one, other)"},
+        "EndsKind": {"plain": "(self, word)", "rest_between": "(self, one, other)"},
+    },
+    "fields": {
+        "Field": {
+            "__init__": "(self, neutral, pieces=())", "pieces": "(self)", "at": "(self, key)", "within": "(self, a, b)",
+            "painted": "(self, a, b, thing)", "__eq__": "(self, other)", "__len__": "(self)", "__iter__": "(self)",
+            "__contains__": "(self, key)",
+        },
+    },
+    "books": {
+        "Book": {
+            "__init__": "(self, kind, *, most=8)", "made": "(cls, kind, least, *, most=8)", "write": "(self, batch)",
+            "sync": "(self)", "crash": "(self, number)", "hold": "(self, name, a, b)", "narrow": "(self, name, a, b)",
+            "drop": "(self, name)", "read": "(self, key)", "ask": "(self, name, key)", "answer": "(self, step)",
+            "store": "(self)", "view": "(self, name)", "names": "(self)", "least_store": "(self)", "twin": "(self)",
+        },
+    },
+    "menus": {
+        "Menu": {
+            "__init__": "(self, kind, steps, *, most)", "__len__": "(self)", "steps": "(self)", "states": "(self)",
+            "row_to": "(self, number)", "table": "(self)", "full_pair": "(self)",
+        },
+    },
+}
+
+PROPERTIES = {
+    ("fields", "Field"): ("neutral", "size"), ("books", "Book"): ("kind", "most", "loose"),
+    ("menus", "Menu"): ("kind", "most"),
+}
+
+CONSTANTS = {
+    "kinds": ("KIND_NAMES", "IDEMPOTENT"), "effects": ("IDLE", "STONE"), "stretches": ("TOP",),
+    "deeds": ("DEEDS", "QUESTIONS", "REASONS"),
+}
+
+
+def tree_of(module):
+    """Returns the tree of the file of a module."""
+    return ast.parse((PACKAGE / (module + ".py")).read_text(encoding="utf-8"))
+
+
+class InterfaceTest(unittest.TestCase):
+    def test_functions(self):
+        for module, names in FUNCTIONS.items():
+            made = importlib.import_module("leastshelf." + module)
+            here = [node.name for node in tree_of(module).body if isinstance(node, ast.FunctionDef)]
+            for name, signature in names.items():
+                self.assertIn(name, here)
+                self.assertEqual(str(inspect.signature(getattr(made, name))), signature, (module, name))
+
+    def test_classes(self):
+        for module, names in CLASSES.items():
+            made = importlib.import_module("leastshelf." + module)
+            bodies = {node.name: node.body for node in tree_of(module).body if isinstance(node, ast.ClassDef)}
+            for name, methods in names.items():
+                self.assertIn(name, bodies)
+                for method, signature in methods.items():
+                    own = vars(getattr(made, name))[method]
+                    own = own.__func__ if isinstance(own, classmethod) else own
+                    self.assertEqual(str(inspect.signature(own)), signature, (module, name, method))
+        self.assertIsInstance(vars(importlib.import_module("leastshelf.books").Book)["made"], classmethod)
+
+    def test_properties(self):
+        for (module, name), properties in PROPERTIES.items():
+            made = getattr(importlib.import_module("leastshelf." + module), name)
+            for attribute in properties:
+                self.assertIsInstance(vars(made)[attribute], property)
+
+    def test_constants(self):
+        for module, names in CONSTANTS.items():
+            made = importlib.import_module("leastshelf." + module)
+            for name in names:
+                self.assertTrue(hasattr(made, name))
+
+    def test_generators(self):
+        for module, name in (("overlays", "gaps"), ("leasts", "losses"), ("tables", "reached")):
+            self.assertTrue(inspect.isgeneratorfunction(getattr(importlib.import_module("leastshelf." + module), name)))
+
+
+if __name__ == "__main__":
+    unittest.main()
