@@ -3,23 +3,26 @@
 import itertools
 import random
 
+# the errors by their parameters, as the interface lists them
+ERRORS = {
+    "name": "BadKind BadName Taken Unknown Outside Refused",
+    "key": "BadKey Unordered Sandwiched",
+    "number": "Fewer BadLimit TooMany",
+    "line": "BadLog",
+    "what": "TooLarge",
+    "place": "BadWord BadEffect BadStretch BadField BadBatch BadStep BadMenu BadTable BadRun BadMark NoPlace NotClosed "
+             "BadSteps NotRight BadPlan BadSizes",
+    None: "BadLeast Loose OtherBook OtherWindow Closed",
+}
+PARAMETER = {error: parameter for parameter, errors in ERRORS.items() for error in errors.split()}
+
 KINDS = ("list", "bag", "set", "first", "last", "ends", "heads", "tails")
 LEAST_LETTER, GREATEST_LETTER = 0, 999999999
 TOP = 1000000
 
 
-class AlwaysEqual:
-    """A value that claims to be equal to everything."""
-
-    def __eq__(self, other):
-        return True
-
-    def __hash__(self):
-        return 0
-
-
 # none of these is a kind, a word, an effect, a key, a stretch, a batch, a step or the like
-ODD_VALUES = (None, True, False, 1.0, -1, 10 ** 5000, "", "lists", b"list", {}, {1}, object(), AlwaysEqual(), len)
+ODD_VALUES = (None, True, False, 1.0, -1, 10 ** 30, "", "lists", b"list", {}, {1}, object(), len)
 
 BAD_KINDS = ODD_VALUES + (0, 1, "List", "list ", ("list",), ["list"], TOP)
 
@@ -28,19 +31,17 @@ BAD_LETTERS = ODD_VALUES + (GREATEST_LETTER + 1, "a", (1,), [1])
 
 
 class Raising:
-    """Asks for an error of just one class, with just one attribute and value."""
+    """Asks for an error of just one class, with just one value of its parameter."""
 
     def raised(self, error, value, call, *args, **keywords):
-        """The call raises the error; its only attribute has the value (None stands for no attribute)."""
+        """The call raises the error; value is a list of the value of its parameter, None if it has none."""
         with self.assertRaises(Exception) as caught:
             call(*args, **keywords)
         self.assertIs(caught.exception.__class__, error)
-        told = list(vars(caught.exception).values())
-        if value is None:
-            self.assertEqual(told, [])
-        else:
-            self.assertEqual(len(told), 1)
-            self.assertTrue(told[0] is value[0] or (told[0].__class__, told[0]) == (value[0].__class__, value[0]))
+        self.assertEqual(PARAMETER[error.__name__] is None, value is None)
+        if value is not None:
+            told = getattr(caught.exception, PARAMETER[error.__name__])
+            self.assertTrue(told is value[0] or (told.__class__, told) == (value[0].__class__, value[0]))
 
     def bad_kinds(self, error, call, *args, **keywords):
         """The call raises the error for each first argument that is no kind, whatever the others are."""

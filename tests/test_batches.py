@@ -82,6 +82,9 @@ class StrokesTest(Raising, unittest.TestCase):
         self.bad_kinds(BadKind, on_store, Field(IDLE), Field(()))
         self.bad_kinds(BadKind, batch_between, Field(()), Field(()))
         self.bad_kinds(BadKind, parting_key, Field(IDLE), Field(IDLE))
+        for call in (on_store, batch_between, parting_key):
+            self.bad_kinds(BadKind, call, None, None)
+        self.bad_kinds(BadKind, narrowed_field, None)
         self.bad_kinds(BadKind, narrowed_field, Field(()))
         self.bad_kinds(BadKind, narrowed_field, Field(IDLE))
 
@@ -208,7 +211,7 @@ class EffectsTest(Raising, unittest.TestCase):
 
     def test_empty_store(self):
         self.assertEqual(empty_store(), Field(()))
-        self.assertIsNot(empty_store().neutral, None)
+        self.assertEqual((empty_store().neutral, empty_store().pieces()), ((), []))
 
     def test_example(self):
         effects = batch_effects("heads", [(0, 10, False, (3, 3)), (4, 6, True, ()), (5, 12, False, (8,))])

@@ -123,6 +123,7 @@ class EffectsTest(Raising, unittest.TestCase):
         self.bad_kinds(BadKind, then)
         self.bad_kinds(BadKind, then, None)
         self.bad_kinds(BadKind, effect_on, IDLE, None)
+        self.bad_kinds(BadKind, effect_on, None, None)
         self.bad_kinds(BadKind, parting_state, None, None)
         self.bad_kinds(BadKind, narrowed_effect, None)
 

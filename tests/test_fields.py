@@ -4,7 +4,7 @@ import unittest
 
 from leastshelf.errors import BadField, BadKey, BadStretch
 from leastshelf.fields import Field
-from samples import ODD_VALUES, TOP, AlwaysEqual, Raising, random_pieces, sample_keys, seeded
+from samples import ODD_VALUES, TOP, Raising, random_pieces, sample_keys, seeded
 from test_stretches import BAD_STRETCHES
 
 # rows of things that one field may have, the neutral one first
@@ -130,7 +130,6 @@ class FieldTest(Raising, unittest.TestCase):
         self.assertIs(Field(()) == Field((1,)), False)
         self.assertIs(Field(0) == Field(1), False)
         self.assertIs(Field(()) == Field(()), True)
-        self.assertIs(Field(()).__eq__(AlwaysEqual()), False)
 
     def test_point_19_within(self):
         rng = seeded(19)

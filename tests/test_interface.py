@@ -76,8 +76,7 @@ CLASSES = {
     "fields": {
         "Field": {
             "__init__": "(self, neutral, pieces=())", "pieces": "(self)", "at": "(self, key)", "within": "(self, a, b)",
-            "painted": "(self, a, b, thing)", "__eq__": "(self, other)", "__len__": "(self)", "__iter__": "(self)",
-            "__contains__": "(self, key)",
+            "painted": "(self, a, b, thing)",
         },
     },
     "books": {
@@ -90,7 +89,7 @@ CLASSES = {
     },
     "menus": {
         "Menu": {
-            "__init__": "(self, kind, steps, *, most)", "__len__": "(self)", "steps": "(self)", "states": "(self)",
+            "__init__": "(self, kind, steps, *, most)", "steps": "(self)", "states": "(self)",
             "row_to": "(self, number)", "table": "(self)", "full_pair": "(self)",
         },
     },

@@ -90,8 +90,11 @@ class KindsTest(Raising, unittest.TestCase):
         self.bad_kinds(BadKind, plain_word, None)
         self.bad_kinds(BadKind, joined, (-1,))
         self.bad_kinds(BadKind, joined)
+        self.bad_kinds(BadKind, joined, None)
         self.bad_kinds(BadKind, rest, (), ())
+        self.bad_kinds(BadKind, rest, None, None)
         self.bad_kinds(BadKind, fresh_word)
+        self.bad_kinds(BadKind, fresh_word, None)
         for name in BAD_KINDS:
             self.raised(BadKind, [name], under, name, "no kind either")
             self.raised(BadKind, [name], under, "list", name)
@@ -178,7 +181,7 @@ class FreshTest(unittest.TestCase):
     def test_point_6(self):
         for kind in KINDS:
             for told, given in ((0, []), (0, [()]), (0, [(1, 2)]), (2, [(0,), (1, 3)]), (4, [(3, 0), (2, 1), (0,)]),
-                                (1, [(0,), (GREATEST_LETTER,)]), (3, [[0, 1], (2,)])):
+                                (1, [(0,), (GREATEST_LETTER,)]), (3, [(0, 1), (2,)])):
                 self.assertEqual(fresh_word(kind, *given), plain(kind, (told,)))
 
 

@@ -84,7 +84,7 @@ class OverlayTest(Raising, unittest.TestCase):
                     self.assertEqual(told.at(key), act(tuple(field.at(key) for field in fields)))
 
     def test_point_21_no_fields(self):
-        told = overlay([], lambda things: None, neutral=(3,))
+        told = overlay([], lambda things: (3,), neutral=(3,))
         self.assertEqual((told.pieces(), told.neutral), ([], (3,)))
 
     def test_point_21_one_form(self):

@@ -4,7 +4,7 @@ import unittest
 
 from leastshelf.batches import after, batch_between, batch_effects, narrowed_batch, narrowed_field, on_store, touched
 from leastshelf.books import Book
-from leastshelf.classes import class_numbers, doubled, least_table, parting_row, without_steps
+from leastshelf.classes import class_numbers, least_table, parting_row, without_steps
 from leastshelf.fields import Field
 from leastshelf.futures import alike, answers, parting
 from leastshelf.kinds import joined, plain_word, rest
@@ -134,7 +134,6 @@ class MenusTest(unittest.TestCase):
         self.assertEqual(least_table(table), table)
         self.assertEqual(len(run_table(table, [at % 24 for at in range(60)])), 60)
         self.assertEqual(len(parting_row(table, 398, 399)), 1)
-        self.assertEqual(len(doubled(table, 399)), 401)
         self.assertEqual(len(least_table(without_steps(table, list(range(20))))), 1)
 
     def test_tables_of_400_states(self):

@@ -102,6 +102,8 @@ class SwallowedTest(Raising, unittest.TestCase):
     def test_kinds(self):
         self.bad_kinds(BadKind, swallowed, (), ())
         self.bad_kinds(BadKind, parting_word, (), ())
+        self.bad_kinds(BadKind, swallowed, None, None)
+        self.bad_kinds(BadKind, parting_word, None, None)
 
 
 class TwiceTest(Raising, unittest.TestCase):

@@ -38,7 +38,7 @@ def bad_tables(steps):
     out = [(thing, 0) for thing in ODD_VALUES + ([], (), "ab", 5, {0: line})]
     lines = [thing for thing in ODD_VALUES + ("ab", 5, [(A, 0)] * (steps + 1), ((A, 0),) * (steps - 1), {})]
     entries = list(ODD_VALUES) + [[A, 0], (A,), (A, 0, 0), (list(A), 0), ("done", 0), (None, 0), (A, 3), (A, -1), (A, True),
-                                  (A, None), (A, "0"), (A, 0.0), (), (0, A), (A, (0,)), (A, 10 ** 5000)]
+                                  (A, None), (A, "0"), (A, 0.0), (), (0, A), (A, (0,)), (A, 10 ** 30)]
     lines += [[*line[1:], entry] for entry in entries] + [(entry, *line[1:]) for entry in entries]
     for bad in lines:
         out.extend([([line, bad, bad], 1), ((line, line, bad), 2), ([bad, line, line], 0)])
