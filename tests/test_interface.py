@@ -61,6 +61,25 @@ FUNCTIONS = {
         "class_numbers": "(table)", "least_table": "(table)", "parting_row": "(table, one, other)",
         "without_steps": "(table, numbers)", "doubled": "(table, state)",
     },
+    "rightness": {"erring": "(menu, table)", "mapping": "(menu, table)"},
+    "counts": {
+        "word_count": "(kind, letters, *, longest=0)", "store_count": "(words, keys, *, loose=0, widths=())",
+        "menu_count": "(words, keys, *, most, widths=())",
+    },
+    "entries": {"is_entry": "(kind, begin, end, thing)", "effect_up_to": "(kind, row, number)"},
+    "runs": {},
+    "cuts": {"is_mark": "(thing)", "check_marks": "(marks)", "cuts_at": "(begin, end, marks, key)"},
+    "rows": {
+        "stack_window": "(stack)", "stack_reach": "(stack)", "stack_up_to": "(stack, key, number)",
+        "row_at": "(stack, marks, key)", "told_row": "(stack, marks, under, key)", "told_rows": "(stack, marks, under)",
+    },
+    "leastruns": {
+        "least_run": "(stack, marks, under)", "entry_count": "(run, key)", "letter_count": "(run, key)",
+        "whole_counts": "(run, *, over=None)",
+    },
+    "noticed": {
+        "parting_beneath": "(one, other, marks, under)", "notices": "(run, marks, under)", "narrowed_run": "(kind, run)",
+    },
 }
 
 CLASSES = {
@@ -93,11 +112,24 @@ CLASSES = {
             "row_to": "(self, number)", "table": "(self)", "full_pair": "(self)",
         },
     },
+    "runs": {
+        "Run": {
+            "__init__": "(self, kind, begin, end, reach, pieces)", "of_batches": "(kind, begin, batches)",
+            "reach": "(self)", "contents": "(self)", "pieces": "(self)", "entries_at": "(self, key)",
+            "up_to": "(self, key, number)", "within": "(self, a, b)", "applied": "(self, store, number)",
+        },
+    },
 }
 
 PROPERTIES = {
     ("fields", "Field"): ("neutral", "size"), ("books", "Book"): ("kind", "most", "loose"),
-    ("menus", "Menu"): ("kind", "most"),
+    ("menus", "Menu"): ("kind", "most"), ("runs", "Run"): ("kind", "begin", "end"),
+}
+
+# what the interface lists for a class by a sign, by len(..), by `in` or by iterating
+SIGNS = {
+    ("fields", "Field"): ("__eq__", "__len__", "__iter__", "__contains__"), ("menus", "Menu"): ("__len__",),
+    ("runs", "Run"): ("__eq__", "__len__", "__contains__"),
 }
 
 CONSTANTS = {
@@ -128,15 +160,22 @@ class InterfaceTest(unittest.TestCase):
                 self.assertIn(name, bodies)
                 for method, signature in methods.items():
                     own = vars(getattr(made, name))[method]
-                    own = own.__func__ if isinstance(own, classmethod) else own
+                    own = own.__func__ if isinstance(own, (classmethod, staticmethod)) else own
                     self.assertEqual(str(inspect.signature(own)), signature, (module, name, method))
         self.assertIsInstance(vars(importlib.import_module("leastshelf.books").Book)["made"], classmethod)
+        self.assertIsInstance(vars(importlib.import_module("leastshelf.runs").Run)["of_batches"], staticmethod)
 
     def test_properties(self):
         for (module, name), properties in PROPERTIES.items():
             made = getattr(importlib.import_module("leastshelf." + module), name)
             for attribute in properties:
                 self.assertIsInstance(vars(made)[attribute], property)
+
+    def test_signs(self):
+        for (module, name), methods in SIGNS.items():
+            made = getattr(importlib.import_module("leastshelf." + module), name)
+            for method in methods:
+                self.assertIn(method, vars(made))
 
     def test_constants(self):
         for module, names in CONSTANTS.items():
@@ -145,7 +184,7 @@ class InterfaceTest(unittest.TestCase):
                 self.assertTrue(hasattr(made, name))
 
     def test_generators(self):
-        for module, name in (("overlays", "gaps"), ("leasts", "losses"), ("tables", "reached")):
+        for module, name in (("overlays", "gaps"), ("leasts", "losses"), ("tables", "reached"), ("rows", "told_rows")):
             self.assertTrue(inspect.isgeneratorfunction(getattr(importlib.import_module("leastshelf." + module), name)))
 
 

@@ -8,13 +8,19 @@ from leastshelf.classes import class_numbers, least_table, parting_row, without_
 from leastshelf.fields import Field
 from leastshelf.futures import alike, answers, parting
 from leastshelf.kinds import joined, plain_word, rest
+from leastshelf.leastruns import least_run, whole_counts
 from leastshelf.leasts import history_of, losses, narrowed_least, plain_least
 from leastshelf.menus import Menu
+from leastshelf.noticed import notices, parting_beneath
 from leastshelf.overlays import gaps, key_set, meeting, overlay, union, unlike, without
+from leastshelf.rightness import erring, mapping
+from leastshelf.rows import row_at, stack_reach, stack_up_to
+from leastshelf.runs import Run
 from leastshelf.steps import row_letters, running, steps_between
 from leastshelf.swaps import change_places, swallowed
 from leastshelf.tables import reached, run_table
 from samples import KINDS, TOP, plain
+from stacks import then_all
 
 LONG = tuple((7 * at * at + at) % 41 for at in range(60))
 
@@ -22,6 +28,12 @@ LONG = tuple((7 * at * at + at) % 41 for at in range(60))
 def long_word(number):
     """Returns a word of 60 letters."""
     return tuple(letter + number for letter in LONG)
+
+
+def many_strokes(number):
+    """Returns a batch whose strokes lie at other keys for each number."""
+    a = number * 37 % 900
+    return [(a, a + 150, number % 11 == 3, (number % 17,)), (a // 2, a // 2 + 90, False, (number % 7, number % 3))]
 
 
 class WordsTest(unittest.TestCase):
@@ -144,6 +156,59 @@ class MenusTest(unittest.TestCase):
         unlike_answers = [[((str(at), [number]), at) for number in range(24)] for at in range(400)]
         self.assertEqual(parting_row(unlike_answers, 3, 4), [0])
         self.assertEqual(least_table(unlike_answers), unlike_answers[:1])
+
+    def test_right_tables_of_400_states(self):
+        menu = Menu("set", [("write", ((0, 1, True, (letter,)),)) for letter in range(19)] + [("sync",), ("read", 0)], most=1)
+        table = menu.table()
+        self.assertEqual((len(table), erring(menu, table), mapping(menu, table)), (400, None, class_numbers(table)))
+        table[399][20] = (("odd",), 0)
+        self.assertEqual((erring(menu, table), mapping(menu, table)), (menu.row_to(399) + [20], None))
+        small = Menu("set", [("sync",), ("read", 0)], most=1)
+        chain = [[(("done",), min(at + 1, 399)), (("word", () if at < 399 else (1,)), at)] for at in range(400)]
+        self.assertEqual(erring(small, chain), [0] * 399 + [1])
+        ring = [[(("done",), (at + 1) % 400), (("word", ()), at)] for at in range(400)]
+        self.assertEqual(mapping(small, ring), [0] * 400)
+
+
+class RunsTest(unittest.TestCase):
+    def stack(self, kind):
+        """Returns a stack of 24 runs of 60 batches."""
+        return [Run.of_batches(kind, 60 * at, [many_strokes(60 * at + number) for number in range(60)]) for at in range(24)]
+
+    def test_runs_of_60_batches_of_40_strokes(self):
+        for kind in KINDS:
+            batches = [[(at, 700 + 3 * at + number, at % 13 == number % 13, (at, number % 5)) for at in range(40)]
+                       for number in range(60)]
+            run = Run.of_batches(kind, 5, batches)
+            self.assertEqual((run.begin, run.end, run.reach().pieces()), (5, 65, [(0, 876, True)]))
+            least = least_run([run], [(at, 0, TOP) for at in range(20, 60)], key_set([(0, 5)]))
+            for key in (0, 4, 5, 39, 800):
+                for number in (20, 41, 59, 65):
+                    self.assertEqual(least.up_to(key, number)[1], run.up_to(key, number)[1])
+            self.assertLessEqual(whole_counts(least), whole_counts(run))
+
+    def test_stacks_of_24_runs_under_40_marks(self):
+        under = key_set([(40 * at, 40 * at + 9) for at in range(30)])
+        marks = [(36 * at + 5, 7 * at, 300 + 9 * at) for at in range(40)]
+        for kind in KINDS:
+            stack = self.stack(kind)
+            least = least_run(stack, marks, under)
+            self.assertEqual((least.begin, least.end, least.reach()), (0, 1440, stack_reach(stack)))
+            self.assertEqual(least_run([least], marks, under), least)
+            self.assertIsNone(parting_beneath(stack, [least], marks, under))
+            if kind in ("list", "ends"):
+                self.assertNotIn(None, notices(least, marks, under))
+            self.assertEqual(row_at(stack, marks, 299)[-1][1], then_all(kind, [run.up_to(299, 1440) for run in stack]))
+            self.assertEqual(least.applied(Field(()), 1440).at(299), stack_up_to(stack, 299, 1440)[1])
+
+    def test_long_words_of_entries(self):
+        for kind in ("list", "bag", "heads", "tails"):
+            batches = [[(0, 9, False, long_word(number))] for number in range(60)]
+            run = Run.of_batches(kind, 0, batches)
+            least = least_run([run], [(number, 0, 9) for number in range(1, 60, 3)], key_set([]))
+            word = plain(kind, [letter for number in range(60) for letter in long_word(number)])
+            self.assertEqual(run.up_to(3, 60), (False, word))
+            self.assertEqual(least.up_to(3, 60), (True, word))
 
 
 if __name__ == "__main__":
