@@ -26,6 +26,7 @@ def mapping(menu, table):
     out[0] = 0
     # a state comes behind the one from which it was first reached, so its class is known by then
     for state, _ in reached(table):
-        for (_, own_target), (_, target) in zip(own[out[state]], table[state]):
+        line = own[out[state]]
+        for (_, own_target), (_, target) in zip(line, table[state]):
             out[target] = own_target
     return out

@@ -80,6 +80,34 @@ FUNCTIONS = {
     "noticed": {
         "parting_beneath": "(one, other, marks, under)", "notices": "(run, marks, under)", "narrowed_run": "(kind, run)",
     },
+    "dropping": {
+        "changes": "(stack, marks, under)", "gone": "(stack, marks, under, left)",
+        "gone_at": "(stack, marks, under, key, cuts)", "spans_at": "(stack, marks, under, key)",
+        "without_marks": "(marks, drop)", "narrowed_marks": "(marks, place, a, b)",
+    },
+    "ledgers": {
+        "ledger": "(kind, history, *, most=8)", "history_run": "(kind, history, *, most=8)",
+        "history_count": "(kind, history, *, most=8)",
+    },
+    "cursors": {},
+    "spares": {
+        "weights": "(stack, under, numbers)", "spare_table": "(stack, under, numbers)",
+        "kept_cuts": "(stack, under, numbers, many)", "fewest_to_drop": "(stack, under, numbers, entries)",
+    },
+    "chains": {
+        "most_entries": "(kind, cuts, letters, *, puts=True, beneath=True)",
+        "chain_run": "(kind, cuts, letters, key, *, puts=True)",
+    },
+    "shelves": {},
+    "orders": {
+        "stands_over": "(reaches, i, j)", "kept": "(reaches, order)", "below": "(reaches, lot)", "way_back": "(reaches, lot)",
+        "pour_order": "(reaches, lot)", "sandwiched": "(reaches, lot)", "split_order": "(reaches, lot)",
+        "ring": "(reaches, lots)", "lots_order": "(reaches, lots)",
+    },
+    "pours": {
+        "stack_of": "(shelf, lot)", "beneath": "(shelf, lot)", "in_place": "(shelf, lot, run)",
+        "poured": "(shelf, lot, marks)", "split_poured": "(shelf, lot, marks)", "poured_lots": "(shelf, lots, marks)",
+    },
 }
 
 CLASSES = {
@@ -119,17 +147,30 @@ CLASSES = {
             "up_to": "(self, key, number)", "within": "(self, a, b)", "applied": "(self, store, number)",
         },
     },
+    "cursors": {
+        "Cursor": {
+            "__init__": "(self, book, name)", "forward": "(self)", "backward": "(self)", "sweep": "(self, *, back=False)",
+        },
+    },
+    "shelves": {
+        "Shelf": {
+            "__init__": "(self, kind, runs)", "runs": "(self)", "reaches": "(self)", "run_at": "(self, place)",
+            "read": "(self, key, number=None)", "reads": "(self, number=None)", "added": "(self, run)",
+            "order_fault": "(self, *, throughout=False)",
+        },
+    },
 }
 
 PROPERTIES = {
     ("fields", "Field"): ("neutral", "size"), ("books", "Book"): ("kind", "most", "loose"),
     ("menus", "Menu"): ("kind", "most"), ("runs", "Run"): ("kind", "begin", "end"),
+    ("cursors", "Cursor"): ("done",), ("shelves", "Shelf"): ("kind",),
 }
 
 # what the interface lists for a class by a sign, by len(..), by `in` or by iterating
 SIGNS = {
     ("fields", "Field"): ("__eq__", "__len__", "__iter__", "__contains__"), ("menus", "Menu"): ("__len__",),
-    ("runs", "Run"): ("__eq__", "__len__", "__contains__"),
+    ("runs", "Run"): ("__eq__", "__len__", "__contains__"), ("shelves", "Shelf"): ("__eq__", "__len__", "__iter__"),
 }
 
 CONSTANTS = {
@@ -186,6 +227,7 @@ class InterfaceTest(unittest.TestCase):
     def test_generators(self):
         for module, name in (("overlays", "gaps"), ("leasts", "losses"), ("tables", "reached"), ("rows", "told_rows")):
             self.assertTrue(inspect.isgeneratorfunction(getattr(importlib.import_module("leastshelf." + module), name)))
+        self.assertTrue(inspect.isgeneratorfunction(importlib.import_module("leastshelf.cursors").Cursor.sweep))
 
 
 if __name__ == "__main__":

@@ -11,7 +11,7 @@ from leastshelf.runs import Run
 from leastshelf.steps import step
 from samples import KINDS, TOP, Raising, seeded
 from stacks import (ALL_KEYS, CELL_KEYS, NO_KEYS, entry_letters, entry_rows, makes_of, one_run, random_keys, random_marks,
-                    random_row, random_stack, random_stretch, slow_changes, slow_ground, slow_told, slow_window)
+                    random_stack, random_stretch, slow_changes, slow_ground, slow_told, slow_window)
 from test_cuts import BAD_MARK_ROWS, BAD_MARKS
 from test_rows import BAD_KEYS, bad_stacks
 

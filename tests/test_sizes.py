@@ -1,21 +1,29 @@
 """Point 0.5: everything holds up to the sizes that it names."""
 
+import functools
 import unittest
 
 from leastshelf.batches import after, batch_between, batch_effects, narrowed_batch, narrowed_field, on_store, touched
 from leastshelf.books import Book
 from leastshelf.classes import class_numbers, least_table, parting_row, without_steps
+from leastshelf.cursors import Cursor
+from leastshelf.dropping import changes, gone, gone_at
 from leastshelf.fields import Field
 from leastshelf.futures import alike, answers, parting
 from leastshelf.kinds import joined, plain_word, rest
 from leastshelf.leastruns import least_run, whole_counts
 from leastshelf.leasts import history_of, losses, narrowed_least, plain_least
+from leastshelf.ledgers import history_count, ledger
 from leastshelf.menus import Menu
 from leastshelf.noticed import notices, parting_beneath
+from leastshelf.orders import below, lots_order, pour_order, ring, sandwiched, split_order, way_back
 from leastshelf.overlays import gaps, key_set, meeting, overlay, union, unlike, without
+from leastshelf.pours import poured, poured_lots, split_poured
 from leastshelf.rightness import erring, mapping
 from leastshelf.rows import row_at, stack_reach, stack_up_to
 from leastshelf.runs import Run
+from leastshelf.shelves import Shelf
+from leastshelf.spares import fewest_to_drop, kept_cuts, spare_table
 from leastshelf.steps import row_letters, running, steps_between
 from leastshelf.swaps import change_places, swallowed
 from leastshelf.tables import reached, run_table
@@ -34,6 +42,18 @@ def many_strokes(number):
     """Returns a batch whose strokes lie at other keys for each number."""
     a = number * 37 % 900
     return [(a, a + 150, number % 11 == 3, (number % 17,)), (a // 2, a // 2 + 90, False, (number % 7, number % 3))]
+
+
+@functools.lru_cache(maxsize=None)
+def run_tuple(kind):
+    """Returns 24 runs of 60 batches, the oldest first."""
+    return tuple(Run.of_batches(kind, 60 * at, [many_strokes(60 * at + number) for number in range(60)])
+                 for at in range(24))
+
+
+def run_stack(kind):
+    """Returns a stack of 24 runs of 60 batches."""
+    return list(run_tuple(kind))
 
 
 class WordsTest(unittest.TestCase):
@@ -171,10 +191,6 @@ class MenusTest(unittest.TestCase):
 
 
 class RunsTest(unittest.TestCase):
-    def stack(self, kind):
-        """Returns a stack of 24 runs of 60 batches."""
-        return [Run.of_batches(kind, 60 * at, [many_strokes(60 * at + number) for number in range(60)]) for at in range(24)]
-
     def test_runs_of_60_batches_of_40_strokes(self):
         for kind in KINDS:
             batches = [[(at, 700 + 3 * at + number, at % 13 == number % 13, (at, number % 5)) for at in range(40)]
@@ -191,7 +207,7 @@ class RunsTest(unittest.TestCase):
         under = key_set([(40 * at, 40 * at + 9) for at in range(30)])
         marks = [(36 * at + 5, 7 * at, 300 + 9 * at) for at in range(40)]
         for kind in KINDS:
-            stack = self.stack(kind)
+            stack = run_stack(kind)
             least = least_run(stack, marks, under)
             self.assertEqual((least.begin, least.end, least.reach()), (0, 1440, stack_reach(stack)))
             self.assertEqual(least_run([least], marks, under), least)
@@ -209,6 +225,63 @@ class RunsTest(unittest.TestCase):
             word = plain(kind, [letter for number in range(60) for letter in long_word(number)])
             self.assertEqual(run.up_to(3, 60), (False, word))
             self.assertEqual(least.up_to(3, 60), (True, word))
+
+
+class LettingGoTest(unittest.TestCase):
+    def test_40_marks_over_24_runs(self):
+        under, numbers = key_set([(40 * at, 40 * at + 9) for at in range(30)]), [36 * at + 5 for at in range(40)]
+        for kind in ("list", "tails"):
+            stack = run_stack(kind)
+            marks = [(number, 0, TOP) for number in numbers]
+            rows = spare_table(stack, under, numbers)
+            self.assertEqual((len(rows), rows[41][41]), (42, sum(many * (b - a) for a, b, many in changes(stack, marks, under))))
+            kept = kept_cuts(stack, under, numbers, 12)
+            left = [(number, 0, TOP) for number in kept[:-1]]
+            self.assertEqual(rows[12][41], sum(many * (b - a) for a, b, many in changes(stack, left, under)))
+            told = fewest_to_drop(stack, under, numbers, rows[41][41] - rows[12][41])
+            self.assertEqual(told, [number for number in numbers if number not in kept])
+            for key in (40, 299, 700):
+                self.assertEqual(gone(stack, marks, under, left).at(key), gone_at(stack, marks, under, key, told))
+
+    def test_books_with_40_views_and_cursors(self):
+        history = [("write", [(at, at + 300, False, long_word(at)), (at + 500, at + 600, True, (at,))]) for at in range(8)]
+        history += [("hold", name, name, name + 400) for name in range(40)] + [("narrow", 7, 20, 30), ("crash", 9)]
+        for kind in KINDS:
+            book = Book(kind)
+            for step in history:
+                book.answer(step)
+            batches, marks = ledger(kind, history)
+            self.assertEqual((len(batches), marks[7], len(marks)), (8, (8, 20, 30), 48))
+            self.assertGreater(history_count(kind, history), 0)
+            for name in range(40):
+                pieces = book.view(name)[2]
+                self.assertEqual(list(Cursor(book, name).sweep(back=name % 2 == 1)), pieces[::-1] if name % 2 else pieces)
+            self.assertEqual(book.names(), [])
+
+
+class ShelvesTest(unittest.TestCase):
+    def test_orders_of_24_reaches_of_60_stretches(self):
+        wide = [key_set([(100 * at + 3 * place, 100 * at + 3 * place + 2) for at in range(60)]) for place in range(24)]
+        self.assertEqual((way_back(wide, [0, 23, 9]), below(wide, [3]), len(pour_order(wide, list(range(0, 24, 2))))), (None, [], 13))
+        chain = [key_set([(100 * at + 3 * place, 100 * at + 3 * place + 4) for at in range(60)]) for place in range(24)]
+        self.assertEqual((way_back(chain, [0, 23]), below(chain, [3])), (list(range(24)), list(range(4, 24))))
+        self.assertEqual(ring(chain, [[0, 12], [23]]), list(range(12)))
+        self.assertEqual(lots_order(chain, [[at, at + 1] for at in range(0, 24, 2)]), list(range(0, 24, 2)))
+        self.assertEqual(len(split_order(chain, [0, 1, 23])), 21 + 60 * (2 + 2 + 2))
+        self.assertEqual(sandwiched([chain[0]] * 24, [2, 9]), (0, 2, 3, 9))
+
+    def test_shelves_of_24_runs(self):
+        marks = [(36 * at + 5, 7 * at, 300 + 9 * at) for at in range(40)]
+        for kind in ("list", "set", "ends"):
+            shelf = Shelf(kind, run_stack(kind)[::-1])
+            self.assertIsNone(shelf.order_fault(throughout=True))
+            shelves = [poured(shelf, list(range(24)), marks), poured(shelf, [4, 5, 6, 7], marks),
+                       split_poured(shelf, list(range(3, 20)), marks), poured_lots(shelf, [[0, 1, 2], [8, 9], [22, 23]], marks)]
+            self.assertEqual([len(one) for one in shelves[:2] + shelves[3:]], [1, 21, 20])
+            for other in shelves:
+                self.assertEqual(other.reads(), shelf.reads())
+                for number, a, b in marks[::6]:
+                    self.assertEqual(other.reads(number).within(a, b), shelf.reads(number).within(a, b))
 
 
 if __name__ == "__main__":
