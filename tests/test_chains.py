@@ -65,7 +65,6 @@ class MostEntriesTest(Raising, unittest.TestCase):
         for thing in NO_LETTERS:
             for puts in (True, False):
                 self.raised(BadLimit, [thing], most_entries, "list", 3, thing, puts=puts)
-        self.assertEqual(most_entries("list", 10 ** 30, 10 ** 30), 10 ** 30)
         self.assertRaises(TypeError, most_entries, "list", 3, 3, True)
 
 

@@ -58,7 +58,6 @@ class EffectUpToTest(Raising, unittest.TestCase):
                 for number in range(0, 11):
                     said = then_all(kind, [(clear, word) for at, clear, word in row if at <= number])
                     self.assertEqual(effect_up_to(kind, row, number), said)
-                    self.assertEqual(effect_up_to(kind, list(row), number), said)
 
     def test_no_entries(self):
         for kind in KINDS:

@@ -186,6 +186,21 @@ class AlikeTest(unittest.TestCase):
                         for under in (ONE_KEY, NO_KEYS):
                             self.least_of_each(kind, end, rows, marks, under)
 
+    def test_point_70_no_alike_run_has_less_than_stacks_of_two_runs(self):
+        rng = seeded(702)
+        for kind in KINDS:
+            rows = entry_rows(kind, 3, (0, 1), 1)
+            for marks, under in (([], ONE_KEY), ([(1, 0, 1)], ONE_KEY), ([(2, 0, 1)], NO_KEYS), ([(1, 0, 1), (2, 0, 1)], ONE_KEY)):
+                found = by_told_rows(kind, 3, rows, marks, under)
+                for _ in range(25):
+                    number, row = rng.randrange(1, 3), rng.choice(rows)
+                    stack = [one_run(kind, 0, number, tuple(entry for entry in row if entry[0] <= number)),
+                             one_run(kind, number, 3, tuple(entry for entry in row if entry[0] > number))]
+                    least = least_run(stack, marks, under).entries_at(0)
+                    for other in found[tuple(slow_told(stack, marks, under, 0))]:
+                        self.assertLessEqual(len(least), len(other))
+                        self.assertLessEqual(entry_letters(least), entry_letters(other))
+
     def least_of_each(self, kind, end, rows, marks, under):
         """The least run of each told row has the fewest entries and letters of all rows that make it."""
         cuts = [0] + sorted({number for number, _, _ in marks}) + [end]

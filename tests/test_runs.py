@@ -75,9 +75,8 @@ class RunTest(Raising, unittest.TestCase):
         self.assertEqual(Run("list", 0, 10 ** 30, NO_KEYS, []).end, 10 ** 30)
 
     def test_reaches(self):
-        for thing in ODD_VALUES + (Field(()), Field(0), Field(1), Field(True), Field(None), Field((False, ())), [(0, 1, True)],
-                                   Field(False, [(0, 1, 1)]), Field(False, [(0, 1, True), (1, 2, "x")]), Field(0, [(0, 1, 1)]),
-                                   Field(True, [(0, 1, False)]), Field(False, [(0, 1, ())])):
+        for thing in ODD_VALUES + (Field(()), Field(0), Field(1), Field(True), Field((False, ())), [(0, 1, True)],
+                                   Field(0, [(0, 1, 1)]), Field((), [(0, 1, (1,))]), Field(True, [(0, 1, False)])):
             self.raised(BadRun, ["reach"], Run, "list", 0, 5, thing, [None])
         self.assertEqual(Run("list", 0, 5, Field(False, [(0, 1, True), (1, 2, True)]), []).reach(), key_set([(0, 2)]))
 
