@@ -51,7 +51,7 @@ def shortest_way(nexts, start, inner, goals):
     # ways of one length ascend, so the first one to come to anything is the least to do so
     while ways:
         longer = []
-        for way in ways:
+        for way in list(ways):
             for place in nexts[way[-1]]:
                 if place in goals and len(way) > 1:
                     return [*way, place]

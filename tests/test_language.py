@@ -38,6 +38,9 @@ setdefault split splitlines startswith strip update upper values zfill bit_lengt
 center expandtabs removeprefix removesuffix rindex isascii isdecimal isnumeric istitle isidentifier isprintable
 translate maketrans encode decode add discard sort format from_iterable __init__ __class__ __name__""".split()
 
+# what changes a list, a dict or a set
+CHANGING = "append clear extend insert pop remove reverse setdefault update sort add discard".split()
+
 BARRED_NAMES = """register mro elements open input law version_info with_traceback add_note attrgetter breakpoint
 builtins compile copyright credits delattr dir eval exec exit gc getattr globals hasattr help id importlib license
 locals methodcaller os quit setattr type vars sys""".split()
@@ -104,6 +107,52 @@ def defined(tree):
     names = [node.name for node in tree.body if isinstance(node, (ast.FunctionDef, ast.ClassDef))]
     names += [node.targets[0].id for node in tree.body if isinstance(node, ast.Assign)]
     return names + [node.target.id for node in tree.body if isinstance(node, ast.AnnAssign)]
+
+
+def base_name(node):
+    """Returns the name off which an attribute or an item is taken, None if it is taken off no name."""
+    while isinstance(node, (ast.Attribute, ast.Subscript)):
+        node = node.value
+    return node.id if isinstance(node, ast.Name) else None
+
+
+def walked_names(node):
+    """Returns the names of what a loop over a value goes over; a copy has none."""
+    if isinstance(node, ast.IfExp):
+        return walked_names(node.body) | walked_names(node.orelse)
+    if isinstance(node, ast.BoolOp):
+        return set().union(*[walked_names(part) for part in node.values])
+    if isinstance(node, ast.Call) and getattr(node.func, "id", "") in ("enumerate", "zip", "reversed"):
+        return set().union(*[walked_names(part) for part in node.args])
+    if isinstance(node, ast.Call) and getattr(node.func, "attr", "") in ("items", "keys", "values"):
+        return walked_names(node.func.value)
+    return {base_name(node)} - {None}
+
+
+def changed_names(rows):
+    """Returns the names off which the rows change something."""
+    out = []
+    for node in ast.walk(ast.Module(body=rows, type_ignores=[])):
+        if isinstance(node, ast.Call) and isinstance(node.func, ast.Attribute) and node.func.attr in CHANGING:
+            out.append(base_name(node.func.value))
+        if isinstance(node, (ast.Assign, ast.AugAssign)):
+            targets = node.targets if isinstance(node, ast.Assign) else [node.target]
+            out.extend(base_name(target) for target in targets if not isinstance(target, ast.Name))
+        if isinstance(node, ast.Delete):
+            out.extend(base_name(target) for target in node.targets)
+    return {name for name in out if name is not None}
+
+
+def same_names(function):
+    """Returns a dict from each name to the names that may mean the same thing somewhere in the function."""
+    groups = {}
+    for node in ast.walk(function):
+        if isinstance(node, ast.Assign):
+            names = walked_names(node.value) | {base_name(target) for target in node.targets} - {None}
+            if walked_names(node.value):
+                met = names.union(*[groups.get(name, {name}) for name in names])
+                groups.update({name: met for name in met})
+    return groups
 
 
 class FilesTest(unittest.TestCase):
@@ -229,6 +278,16 @@ class StatementsTest(unittest.TestCase):
                 if isinstance(node, ast.Constant):
                     self.assertNotIsInstance(node.value, (float, complex), name)
                 self.assertNotIsInstance(node, (ast.Div, ast.Await), name)
+
+    def test_loops_do_not_change_what_they_walk(self):
+        for name, _, tree in parsed():
+            for function in functions(tree):
+                groups = same_names(function)
+                for node in ast.walk(function):
+                    if isinstance(node, ast.For):
+                        walked = walked_names(node.iter)
+                        walked = walked.union(*[groups.get(one, {one}) for one in walked])
+                        self.assertEqual(walked & changed_names(node.body), set(), (name, function.name, node.lineno))
 
     def test_errors_of_python_are_not_caught(self):
         for name, _, tree in parsed():
