@@ -20,9 +20,8 @@ def places_under(reaches):
     return [[j for j in range(i + 1, many) if meeting(reaches[i], reaches[j]) is not None] for i in range(many)]
 
 
-def kept(reaches, order):
-    """Returns None if the order keeps all reads, otherwise the first pair that it turns, and a key."""
-    spots = {place: spot for spot, place in enumerate(order)}
+def first_turned(reaches, spots):
+    """Returns the first pair of which the lower place has the lesser spot, and its least common key, or None."""
     for i in range(len(reaches)):
         for j in range(i + 1, len(reaches)):
             if spots[j] < spots[i]:
@@ -30,6 +29,11 @@ def kept(reaches, order):
                 if key is not None:
                     return (i, j, key)
     return None
+
+
+def kept(reaches, order):
+    """Returns None if the order keeps all reads, otherwise the first pair that it turns, and a key."""
+    return first_turned(reaches, {place: spot for spot, place in enumerate(order)})
 
 
 def below(reaches, lot):

@@ -108,6 +108,25 @@ FUNCTIONS = {
         "stack_of": "(shelf, lot)", "beneath": "(shelf, lot)", "in_place": "(shelf, lot, run)",
         "poured": "(shelf, lot, marks)", "split_poured": "(shelf, lot, marks)", "poured_lots": "(shelf, lots, marks)",
     },
+    "partings": {
+        "turned_pair": "(reaches, lot, order)", "pair_shelf": "(kind, reaches, i, j, key, *, puts=True)",
+        "refilled": "(shelf, lot, key, effects)", "parted_outcome": "(shelf, lot, run, marks)",
+    },
+    "toldlots": {
+        "group_outcome": "(shelf, lot, upper)", "group_poured": "(shelf, lot, upper)", "group_fault": "(shelf, lot, upper)",
+        "swapped_parting": "(one, other, marks, under)",
+    },
+    "logtexts": {"log_text": "(first, batches)", "read_log": "(text)"},
+    "devices": {"come_up": "(left)"},
+    "windows": {
+        "device_windows": "(steps)", "faults": "(steps)", "is_right": "(steps)", "breaking": "(steps)", "numbers_up": "(steps)",
+    },
+    "syncs": {
+        "fewest_firms": "(steps)", "apart_windows": "(steps)", "may_leave_out": "(steps, places)", "needed_firms": "(steps)",
+        "own_apart": "(steps)",
+    },
+    "replays": {"replay_key": "(kind, batches, begin, middle)"},
+    "keepers": {"kept_fault": "(menu, table, kept)", "kept_map": "(menu, table, kept)"},
 }
 
 CLASSES = {
@@ -159,18 +178,24 @@ CLASSES = {
             "order_fault": "(self, *, throughout=False)",
         },
     },
+    "devices": {
+        "Device": {
+            "__init__": "(self, steps=())", "take": "(self, step)", "steps": "(self)", "left_parts": "(self)",
+        },
+    },
 }
 
 PROPERTIES = {
     ("fields", "Field"): ("neutral", "size"), ("books", "Book"): ("kind", "most", "loose"),
     ("menus", "Menu"): ("kind", "most"), ("runs", "Run"): ("kind", "begin", "end"),
-    ("cursors", "Cursor"): ("done",), ("shelves", "Shelf"): ("kind",),
+    ("cursors", "Cursor"): ("done",), ("shelves", "Shelf"): ("kind",), ("devices", "Device"): ("noted", "told", "lasting"),
 }
 
 # what the interface lists for a class by a sign, by len(..), by `in` or by iterating
 SIGNS = {
     ("fields", "Field"): ("__eq__", "__len__", "__iter__", "__contains__"), ("menus", "Menu"): ("__len__",),
     ("runs", "Run"): ("__eq__", "__len__", "__contains__"), ("shelves", "Shelf"): ("__eq__", "__len__", "__iter__"),
+    ("devices", "Device"): ("__len__",),
 }
 
 CONSTANTS = {

@@ -6,6 +6,7 @@ import unittest
 from leastshelf.errors import NoPlace, NotClosed, Sandwiched
 from leastshelf.orders import (below, kept, lots_order, pour_order, ring, sandwiched, split_order, stands_over, way_back)
 from leastshelf.overlays import key_set
+from leastshelf.partings import turned_pair
 from leastshelf.runs import Run
 from leastshelf.shelves import Shelf
 from samples import KINDS, ODD_VALUES, TOP, Raising, plain, seeded
@@ -238,7 +239,8 @@ class LotsTest(Raising, unittest.TestCase):
 
     def test_example(self):
         reaches = [key_set([(0, 10)]), key_set([(5, 15)]), key_set([(10, 20)])]
-        self.assertEqual([way_back(reaches, [2, 0]), below(reaches, [0])], [[0, 1, 2], [1, 2]])
+        told = [way_back(reaches, [2, 0]), below(reaches, [0]), turned_pair(reaches, [0, 2], [None, 1])]
+        self.assertEqual(told, [[0, 1, 2], [1, 2], (1, 2, 10)])
         self.assertEqual(split_order(reaches, [0, 2]), [(0, 0, 5), (0, 5, 10), 1, (2, 10, 15), (2, 15, 20)])
         self.raised(NotClosed, [1], pour_order, reaches, [0, 2])
 

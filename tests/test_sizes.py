@@ -7,18 +7,23 @@ from leastshelf.batches import after, batch_between, batch_effects, narrowed_bat
 from leastshelf.books import Book
 from leastshelf.classes import class_numbers, least_table, parting_row, without_steps
 from leastshelf.cursors import Cursor
+from leastshelf.devices import Device, come_up
 from leastshelf.dropping import changes, gone, gone_at
 from leastshelf.fields import Field
 from leastshelf.futures import alike, answers, parting
+from leastshelf.keepers import kept_fault, kept_map
 from leastshelf.kinds import joined, plain_word, rest
 from leastshelf.leastruns import least_run, whole_counts
 from leastshelf.leasts import history_of, losses, narrowed_least, plain_least
 from leastshelf.ledgers import history_count, ledger
+from leastshelf.logtexts import log_text, read_log
 from leastshelf.menus import Menu
 from leastshelf.noticed import notices, parting_beneath
 from leastshelf.orders import below, lots_order, pour_order, ring, sandwiched, split_order, way_back
 from leastshelf.overlays import gaps, key_set, meeting, overlay, union, unlike, without
+from leastshelf.partings import pair_shelf, parted_outcome, refilled, turned_pair
 from leastshelf.pours import poured, poured_lots, split_poured
+from leastshelf.replays import replay_key
 from leastshelf.rightness import erring, mapping
 from leastshelf.rows import row_at, stack_reach, stack_up_to
 from leastshelf.runs import Run
@@ -26,7 +31,10 @@ from leastshelf.shelves import Shelf
 from leastshelf.spares import fewest_to_drop, kept_cuts, spare_table
 from leastshelf.steps import row_letters, running, steps_between
 from leastshelf.swaps import change_places, swallowed
+from leastshelf.syncs import apart_windows, fewest_firms, may_leave_out, needed_firms, own_apart
 from leastshelf.tables import reached, run_table
+from leastshelf.toldlots import group_fault, group_outcome, group_poured, swapped_parting
+from leastshelf.windows import breaking, device_windows, faults, is_right, numbers_up
 from samples import KINDS, TOP, plain
 from stacks import then_all
 
@@ -282,6 +290,81 @@ class ShelvesTest(unittest.TestCase):
                 self.assertEqual(other.reads(), shelf.reads())
                 for number, a, b in marks[::6]:
                     self.assertEqual(other.reads(number).within(a, b), shelf.reads(number).within(a, b))
+
+    def test_told_lots_of_24_runs(self):
+        marks = [(36 * at + 5, 7 * at, 300 + 9 * at) for at in range(40)]
+        for kind in ("list", "tails"):
+            shelf = Shelf(kind, run_stack(kind)[::-1])
+            reaches = shelf.reaches()
+            self.assertEqual(turned_pair(reaches, [0, 23], [*range(22, 0, -1), None])[:2], (0, 1))
+            neighbours = list(range(5, 12))
+            least = poured(shelf, neighbours, marks).run_at(5)
+            self.assertIsNone(parted_outcome(shelf, neighbours, least, marks))
+            self.assertIsNotNone(parted_outcome(shelf, neighbours, Run(kind, least.begin, least.end, least.reach(), []), marks))
+            self.assertEqual(group_poured(shelf, [23], range(23)[::-1]).reads(), shelf.reads())
+            key, effects = group_fault(shelf, [0, 12, 23], list(range(1, 12)))
+            other = refilled(shelf, [0, 12, 23], key, effects)
+            self.assertNotEqual(other.read(key), group_poured(other, [0, 12, 23], list(range(1, 12))).read(key))
+            self.assertEqual(group_outcome(shelf, list(range(24)), []).end, 1440)
+            self.assertIsNotNone(swapped_parting(shelf.run_at(0), shelf.run_at(1), marks, key_set([])))
+            self.assertEqual(pair_shelf(kind, reaches, 0, 23, 300).read(300), (1,))
+
+
+class DevicesTest(unittest.TestCase):
+    def long_row(self):
+        """Returns a right row of 120 steps with 20 files."""
+        steps = []
+        for at in range(12):
+            steps += [("note", at + 1), ("firm", "log"), ("tell", at + 1), ("lay", at), ("firm", at), ("list", at + 1, (at,)),
+                      ("firm", "sheet")]
+            steps += [("clear", at - 1)] if at else []
+        steps += [("lay", at) for at in range(12, 20)] + [("firm", at) for at in range(12, 20)]
+        steps += [("list", 12, (*range(12, 20), 11)), ("firm", "sheet"), ("trim", 9)]
+        return steps + [("firm", "log")] * (120 - len(steps))
+
+    def test_120_steps_with_20_files(self):
+        steps = self.long_row()
+        self.assertEqual((len(steps), is_right(steps), breaking(steps), faults(steps)), (120, True, None, []))
+        device = Device(steps)
+        trims, ends, sheets, files = device.left_parts()
+        self.assertEqual((trims, ends, len(sheets), len(files), numbers_up(steps)), ([0, 9], [12], 1, 20, [12]))
+        left = (9, 12, sheets[0], tuple((file, "whole") for file, _ in files))
+        self.assertEqual(come_up(left), 12)
+        firms = [place for place, step in enumerate(steps) if step[0] == "firm"]
+        needed = needed_firms(steps)
+        self.assertTrue(may_leave_out(steps, [place for place in firms if place not in needed]))
+        self.assertFalse(may_leave_out(steps, needed[5:6]))
+        self.assertEqual(len(own_apart(steps)), len(needed))
+        bare = [step for step in steps if step[0] != "firm"]
+        self.assertEqual((len(fewest_firms(bare)), len(apart_windows(bare))), (len(needed), len(needed)))
+        self.assertLessEqual(len(needed), len(device_windows(steps)))
+        self.assertEqual(breaking(bare)[0], 1)
+
+    def test_a_log_of_20000_characters(self):
+        batches = [[(at * 40 + number, TOP - at, at % 3 == 0, long_word(at)[:number]) for at in range(5)] for number in range(45)]
+        text = log_text(999999000, batches)
+        self.assertGreater(len(text), 15000)
+        told = read_log(text)
+        self.assertEqual(told, [(999999000 + at, tuple(batch)) for at, batch in enumerate(batches)])
+        wide = [[(at, TOP, False, long_word(at)) for at in range(40)]]
+        self.assertEqual(read_log(log_text(1, wide)), [(1, tuple(wide[0]))])
+
+    def test_replays_of_60_batches_of_40_strokes(self):
+        batches = [[(at, 700 + 3 * at + number, at % 13 == number % 13, (at, number % 5)) for at in range(40)] for number in range(60)]
+        for kind in KINDS:
+            self.assertEqual(replay_key(kind, batches, 20, 40), None)
+            last = batches + [[(5, 9, False, (1,))]]
+            self.assertEqual(replay_key(kind, last, 60, 61), 5 if kind in ("list", "bag") else None)
+
+    def test_kept_parts_of_400_states(self):
+        steps = [("write", ((0, 1, True, (letter,)),)) for letter in range(19)]
+        menu = Menu("set", steps + [("sync",), ("read", 0), ("crash", 0), ("crash", 1)], most=1)
+        table = menu.table()
+        stores = [state[0][0] for state in menu.states()]
+        names = {store: at for at, store in enumerate(sorted(set(stores)))}
+        kept = [names[store] for store in stores]
+        self.assertEqual((len(menu), kept_fault(menu, table, kept)), (400, None))
+        self.assertEqual(kept_map(menu, table, kept), list(enumerate(sorted(names))))
 
 
 if __name__ == "__main__":
