@@ -3,7 +3,6 @@
 from leastshelf.batches import checked_strokes, is_stroke
 from leastshelf.errors import BadLog
 
-GREATEST_NUMBER = 999999999
 # no number that stands in a line has more figures
 MOST_FIGURES = 9
 

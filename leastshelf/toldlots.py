@@ -86,8 +86,9 @@ def fault_above(kind, effects, uppers):
     newer = between(kind, effects, -1, uppers[-1])
     if newer == IDLE:
         return None
-    # a put of (), or of a word if the lot puts () itself: what is above it shows, and is not above it any more
-    return [(uppers[-1], (True, fresh_word(kind)) if newer == STONE else STONE)]
+    # the lot changes what the oldest upper place puts; once the lot is poured below, that is read as it is
+    shown = (True, fresh_word(kind)) if newer == STONE else STONE
+    return [(uppers[-1], shown)]
 
 
 def part(place, word):

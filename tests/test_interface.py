@@ -127,6 +127,22 @@ FUNCTIONS = {
     },
     "replays": {"replay_key": "(kind, batches, begin, middle)"},
     "keepers": {"kept_fault": "(menu, table, kept)", "kept_map": "(menu, table, kept)"},
+    "plans": {"check_sizes": "(sizes, spills)"},
+    "prices": {},
+    "spreads": {
+        "most_spills": "(height, writings)", "fewest_writings": "(spills, height)",
+        "spread": "(height, writings, *, spills=None)", "unlike_sizes": "(spills)", "unlike_price": "(spills, height)",
+    },
+    "sizes": {
+        "spill_sizes": "(spills, *, marks=(), beneath=None)", "added_sizes": "(spills, *, marks=(), beneath=None)",
+        "played": "(plan, spills, *, marks=(), beneath=None)",
+    },
+    "desks": {},
+    "scans": {
+        "scan": "(desk, begin, end, *, name=None, backward=False, limit=None)", "walk": "(desk, begin, end, *, name=None)",
+    },
+    "trials": {"tried": "(desk, steps)"},
+    "listings": {"listing": "(desk)"},
 }
 
 CLASSES = {
@@ -183,19 +199,45 @@ CLASSES = {
             "__init__": "(self, steps=())", "take": "(self, step)", "steps": "(self)", "left_parts": "(self)",
         },
     },
+    "plans": {
+        "Plan": {
+            "__init__": "(self, rows)", "outcomes": "(self)", "standing": "(self, spill)", "writings": "(self)",
+            "price": "(self, sizes)",
+        },
+    },
+    "prices": {
+        "PriceTable": {
+            "__init__": "(self, sizes, height)", "__call__": "(self, k, i, j)", "seam": "(self, k, i, j)",
+            "closed_rows": "(self)", "cheapest": "(self)",
+        },
+    },
+    "desks": {
+        "Desk": {
+            "__init__": "(self, kind, *, most=8)", "write": "(self, batch)", "sync": "(self)", "crash": "(self, number)",
+            "hold": "(self, name, a, b)", "narrow": "(self, name, a, b)", "drop": "(self, name)", "read": "(self, key)",
+            "ask": "(self, name, key)", "answer": "(self, step)", "store": "(self)", "view": "(self, name)",
+            "names": "(self)", "least_store": "(self)", "twin": "(self)", "spill": "(self)", "pour": "(self, lot)",
+            "pour_split": "(self, lot)", "shelf": "(self)", "marks": "(self)", "log": "(self)", "steps": "(self)",
+            "as_text": "(self)", "crash_text": "(self, text)", "count_at": "(self, key)", "whole_count": "(self)",
+        },
+    },
+    "trials": {"Trial": {"__init__": "(self, desk)", "__enter__": "(self)"}},
 }
 
 PROPERTIES = {
     ("fields", "Field"): ("neutral", "size"), ("books", "Book"): ("kind", "most", "loose"),
     ("menus", "Menu"): ("kind", "most"), ("runs", "Run"): ("kind", "begin", "end"),
     ("cursors", "Cursor"): ("done",), ("shelves", "Shelf"): ("kind",), ("devices", "Device"): ("noted", "told", "lasting"),
+    ("plans", "Plan"): ("height",), ("prices", "PriceTable"): ("least", "least_to_one"),
+    ("desks", "Desk"): ("kind", "most", "loose", "noted", "kept", "spilled"), ("trials", "Trial"): ("entered",),
 }
 
 # what the interface lists for a class by a sign, by len(..), by `in` or by iterating
 SIGNS = {
     ("fields", "Field"): ("__eq__", "__len__", "__iter__", "__contains__"), ("menus", "Menu"): ("__len__",),
     ("runs", "Run"): ("__eq__", "__len__", "__contains__"), ("shelves", "Shelf"): ("__eq__", "__len__", "__iter__"),
-    ("devices", "Device"): ("__len__",),
+    ("devices", "Device"): ("__len__",), ("plans", "Plan"): ("__eq__", "__len__", "__iter__"),
+    ("prices", "PriceTable"): ("__call__",), ("trials", "Trial"): ("__enter__", "__exit__"),
 }
 
 CONSTANTS = {
@@ -250,7 +292,8 @@ class InterfaceTest(unittest.TestCase):
                 self.assertTrue(hasattr(made, name))
 
     def test_generators(self):
-        for module, name in (("overlays", "gaps"), ("leasts", "losses"), ("tables", "reached"), ("rows", "told_rows")):
+        for module, name in (("overlays", "gaps"), ("leasts", "losses"), ("tables", "reached"), ("rows", "told_rows"),
+                             ("scans", "walk")):
             self.assertTrue(inspect.isgeneratorfunction(getattr(importlib.import_module("leastshelf." + module), name)))
         self.assertTrue(inspect.isgeneratorfunction(importlib.import_module("leastshelf.cursors").Cursor.sweep))
 

@@ -297,6 +297,29 @@ class StatementsTest(unittest.TestCase):
                     for part in ast.walk(node.type):
                         self.assertNotIn(getattr(part, "id", ""), ("Exception", "TypeError", "AttributeError"), name)
 
+    def test_ends_of_blocks_are_plain(self):
+        for name, _, tree in parsed():
+            for function in functions(tree):
+                if function.name == "__exit__":
+                    self.assertEqual([arg.arg for arg in arguments(function)], ["self", "kind", "value", "trace"], name)
+                    for row in function.body:
+                        self.assertIsInstance(row, ast.Assign, name)
+                        self.assertIsInstance(row.value, ast.Attribute, name)
+                    read = [node.id for node in ast.walk(function) if isinstance(node, ast.Name) and isinstance(node.ctx, ast.Load)]
+                    self.assertEqual(set(read) & {"kind", "value", "trace"}, set(), name)
+
+    def test_no_name_is_a_method_and_an_attribute(self):
+        methods, attributes, properties = set(), set(), set()
+        for _, _, tree in parsed():
+            for node in ast.walk(tree):
+                if isinstance(node, ast.ClassDef):
+                    for method in functions(node):
+                        (properties if method.decorator_list and getattr(method.decorator_list[0], "id", "") == "property"
+                         else methods).add(method.name)
+                if isinstance(node, ast.Attribute) and isinstance(node.ctx, ast.Store):
+                    attributes.add(node.attr)
+        self.assertEqual((methods & attributes, properties & attributes, methods & properties), (set(), set(), set()))
+
     def test_decorators(self):
         for name, _, tree in parsed():
             for node in ast.walk(tree):

@@ -7,6 +7,7 @@ from leastshelf.batches import after, batch_between, batch_effects, narrowed_bat
 from leastshelf.books import Book
 from leastshelf.classes import class_numbers, least_table, parting_row, without_steps
 from leastshelf.cursors import Cursor
+from leastshelf.desks import Desk
 from leastshelf.devices import Device, come_up
 from leastshelf.dropping import changes, gone, gone_at
 from leastshelf.fields import Field
@@ -16,6 +17,7 @@ from leastshelf.kinds import joined, plain_word, rest
 from leastshelf.leastruns import least_run, whole_counts
 from leastshelf.leasts import history_of, losses, narrowed_least, plain_least
 from leastshelf.ledgers import history_count, ledger
+from leastshelf.listings import listing
 from leastshelf.logtexts import log_text, read_log
 from leastshelf.menus import Menu
 from leastshelf.noticed import notices, parting_beneath
@@ -23,17 +25,23 @@ from leastshelf.orders import below, lots_order, pour_order, ring, sandwiched, s
 from leastshelf.overlays import gaps, key_set, meeting, overlay, union, unlike, without
 from leastshelf.partings import pair_shelf, parted_outcome, refilled, turned_pair
 from leastshelf.pours import poured, poured_lots, split_poured
+from leastshelf.plans import Plan
+from leastshelf.prices import PriceTable
 from leastshelf.replays import replay_key
 from leastshelf.rightness import erring, mapping
 from leastshelf.rows import row_at, stack_reach, stack_up_to
 from leastshelf.runs import Run
+from leastshelf.scans import scan
 from leastshelf.shelves import Shelf
+from leastshelf.sizes import added_sizes, played, spill_sizes
 from leastshelf.spares import fewest_to_drop, kept_cuts, spare_table
+from leastshelf.spreads import fewest_writings, most_spills, spread, unlike_price, unlike_sizes
 from leastshelf.steps import row_letters, running, steps_between
 from leastshelf.swaps import change_places, swallowed
 from leastshelf.syncs import apart_windows, fewest_firms, may_leave_out, needed_firms, own_apart
 from leastshelf.tables import reached, run_table
 from leastshelf.toldlots import group_fault, group_outcome, group_poured, swapped_parting
+from leastshelf.trials import tried
 from leastshelf.windows import breaking, device_windows, faults, is_right, numbers_up
 from samples import KINDS, TOP, plain
 from stacks import then_all
@@ -365,6 +373,80 @@ class DevicesTest(unittest.TestCase):
         kept = [names[store] for store in stores]
         self.assertEqual((len(menu), kept_fault(menu, table, kept)), (400, None))
         self.assertEqual(kept_map(menu, table, kept), list(enumerate(sorted(names))))
+
+
+class CostsTest(unittest.TestCase):
+    def test_24_spills_and_heights_of_25(self):
+        marks = [(36 * at + 5, 7 * at, 300 + 9 * at) for at in range(40)]
+        under = key_set([(40 * at, 40 * at + 9) for at in range(30)])
+        spills = run_stack("heads")
+        sizes = spill_sizes(spills, marks=marks, beneath=under)
+        for i, j in ((0, 24), (3, 9), (22, 24), (17, 18)):
+            stretches = [(a, b) for a, b, _ in under] + [(a, b) for run in spills[:i] for a, b, _ in run.reach()]
+            least = least_run(spills[i:j], marks, key_set(stretches))
+            self.assertEqual(sizes[i][j - i - 1], whole_counts(least)[0])
+        table = PriceTable(sizes, 25)
+        self.assertEqual((table.least, len(table.closed_rows())), (0, 25 * 25 * 26 // 2))
+        plan = PriceTable(sizes, 3).cheapest()
+        runs, counts = played(plan, spills, marks=marks, beneath=under)
+        self.assertEqual((plan.height, sum(counts), len(runs)), (3, PriceTable(sizes, 3).least, len(plan.standing(23))))
+        self.assertLess(sum(map(sum, added_sizes(spills, marks=marks, beneath=under))), sum(map(sum, sizes)))
+
+    def test_400_spills_and_400_writings(self):
+        for height in (1, 2, 5, 24):
+            writings = fewest_writings(400, height)
+            plan = spread(height, writings, spills=400)
+            self.assertEqual((len(plan), plan.height, max(plan.writings())), (400, height, writings))
+            self.assertGreaterEqual(plan.price(unlike_sizes(400)), unlike_price(400, height))
+        self.assertEqual((most_spills(1, 400), len(spread(1, 400)), fewest_writings(400, 1)), (400, 400, 400))
+        self.assertEqual(spread(24, 400, spills=400).height, 24)
+        self.assertEqual(Plan([[]] * 400).height, 400)
+
+
+class DesksTest(unittest.TestCase):
+    def strokes(self, number):
+        """Returns a batch of 40 strokes."""
+        return [(at * 20 + number % 7, at * 20 + 90, at % 11 == number % 11, long_word(number)[:at + 20]) for at in range(40)]
+
+    def test_120_deeds_of_a_desk(self):
+        for kind in ("list", "set"):
+            desk, book = Desk(kind), Book(kind)
+            for number in range(40):
+                for one in (desk, book):
+                    one.write(self.strokes(number))
+                    one.hold(number, number, TOP - number)
+                    if number % 5 == 4:
+                        one.sync()
+                if number % 10 == 4:
+                    desk.spill()
+                if number % 10 == 9:
+                    desk.pour(list(range(len(desk.shelf()))))
+            self.assertEqual((len(desk.names()), desk.spilled, desk.noted), (40, 35, 40))
+            for number in range(8):
+                for one in (desk, book):
+                    one.write(self.strokes(number + 40))
+            self.assertEqual((desk.loose, desk.least_store()), (8, book.least_store()))
+            self.assertEqual(desk.answer(("write", ())), ("refused", "loose"))
+            self.assertEqual([desk.read(key) for key in range(0, 900, 30)], [book.read(key) for key in range(0, 900, 30)])
+            self.assertEqual(scan(desk, 100, 700, name=20), scan(book, 100, 700, name=20))
+            self.assertEqual((len(listing(desk)), is_right(desk.steps())), (1 + len(desk.shelf()) + 40, True))
+            self.assertEqual(tried(desk, [("sync",), ("spill",), ("split", [0, 1]), ("crash", 0)]), [("done",)] * 4)
+            text = desk.as_text()
+            desk.crash_text(text[:text.rfind(" ; ")])
+            book.crash(7)
+            self.assertEqual(desk.least_store(), book.least_store())
+
+    def test_24_runs_of_a_desk(self):
+        desk = Desk("list")
+        for number in range(24):
+            desk.write(self.strokes(number)[number:number + 9])
+            desk.sync()
+            desk.spill()
+        said = desk.store()
+        desk.pour_split([3, 4, 5, 6])
+        desk.pour(list(range(len(desk.shelf()))))
+        self.assertEqual((desk.store(), len(desk.shelf())), (said, 1))
+        self.assertEqual(desk.whole_count(), sum(b - a for a, b, _ in said))
 
 
 if __name__ == "__main__":
