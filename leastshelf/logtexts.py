@@ -44,14 +44,15 @@ def read_stroke(text):
 
 def read_line(line):
     """Returns the tuple of the batch number and the batch of a line, or None if there are none."""
-    head, *texts = line.split(" ; ")
-    if not is_figures(head) or int(head) == 0:
+    texts = line.split(" ; ")
+    if not is_figures(texts[0]) or int(texts[0]) == 0:
         return None
-    batch = tuple([read_stroke(text) for text in texts])
+    number = int(texts[0])
+    batch = tuple([read_stroke(text) for text in texts[1:]])
     # needless zeros and wrong names go unseen until the line is written anew
-    if None in batch or line_of(int(head), batch) != line:
+    if None in batch or line_of(number, batch) != line:
         return None
-    return (int(head), batch)
+    return (number, batch)
 
 
 def read_log(text):

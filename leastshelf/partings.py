@@ -51,15 +51,13 @@ def pair_shelf(kind, reaches, i, j, key, *, puts=True):
     return Shelf(kind, runs)
 
 
-def checked_effects(shelf, key, effects):
+def checked_effects(kind, effects):
     """Returns the normal forms of the effects of some pairs by their places; raises BadRun."""
     out = {}
     for place, effect in effects:
-        if not is_effect(shelf.kind, effect):
+        if not is_effect(kind, effect):
             raise BadRun(0)
-        out[place] = normal(shelf.kind, effect)
-        if out[place] != IDLE and key not in shelf.run_at(place):
-            raise BadRun(0)
+        out[place] = normal(kind, effect)
     return out
 
 
@@ -69,13 +67,14 @@ def refilled(shelf, lot, key, effects):
     check_key(key)
     for place, _ in effects:
         check_outside(place, places, len(shelf))
-    told = checked_effects(shelf, key, effects)
+    told = checked_effects(shelf.kind, effects)
     runs = []
     for place, run in enumerate(shelf):
         if place in places:
             runs.append(run)
         else:
             effect = told.get(place, IDLE)
+            # raises BadRun(0) too, if the key of the only piece is outside of the reach
             runs.append(with_entry_at(run.kind, run.begin, run.end, run.reach(), key, effect))
     return Shelf(shelf.kind, runs)
 

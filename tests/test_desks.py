@@ -153,7 +153,7 @@ class StepsTest(Raising, unittest.TestCase):
                     twin.__dict__.update(slow.__dict__)
                     twin.do(deed)
                     self.same(desk, twin)
-        self.assertGreater(min(met.values()), 60)
+        self.assertGreater(min(met.values()), 30)
 
     def test_bad_steps_change_nothing(self):
         desk = desk_behind("heads", [("write", put(1)), ("hold", 1, 0, 3), ("sync",), ("spill",), ("write", put(2))], 1)

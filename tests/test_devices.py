@@ -138,7 +138,7 @@ class DeviceTest(Raising, unittest.TestCase):
         steps = list(START)
         device = Device(steps)
         steps.append(("lay", 9))
-        said = (device.steps(), device.left_parts())
+        said = (device.steps(), tuple(list(part) for part in device.left_parts()))
         device.steps().clear()
         for part in device.left_parts():
             part.clear()

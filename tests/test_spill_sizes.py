@@ -187,7 +187,7 @@ class PlayedTest(Raising, unittest.TestCase):
                     for i, j in standing]
             self.assertEqual(runs, said)
             poured += len(counts)
-        self.assertGreater(poured, 120)
+        self.assertGreater(poured, 80)
 
     def test_spills_that_are_not_poured_stand_as_they_were_told(self):
         for kind in KINDS:

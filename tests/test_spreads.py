@@ -79,6 +79,10 @@ class SpreadTest(Raising, unittest.TestCase):
         self.assertEqual([fewest_writings(spills, 1) for spills in (0, 1, 2, 400)], [0, 1, 2, 400])
         self.assertEqual([fewest_writings(spills, 2) for spills in (0, 1, 2, 3, 5, 6)], [0, 1, 1, 2, 2, 3])
 
+    def test_a_height_of_0(self):
+        for writings in range(4):
+            self.assertEqual((most_spills(0, writings), list(spread(0, writings))), (0, []))
+
     def test_writings_of_0_and_1(self):
         for height in range(1, 6):
             self.assertEqual((most_spills(height, 0), list(spread(height, 0)), list(spread(height, 0, spills=0))), (0, [], []))

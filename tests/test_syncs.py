@@ -1,11 +1,13 @@
 """Points 113 and 114: the fewest firms that make a row of steps right, or keep it right."""
 
 import itertools
+import math
 import unittest
 
 from leastshelf.errors import BadSteps, NoPlace, NotRight
 from leastshelf.syncs import apart_windows, fewest_firms, may_leave_out, needed_firms, own_apart
 from leastshelf.windows import breaking, device_windows, faults, is_right
+from crashes import busy_steps
 from samples import ODD_VALUES, Raising, seeded
 from test_devices import BAD, START
 from test_windows import RIGHT, rows
@@ -21,6 +23,17 @@ def with_firms(steps, firms):
         out += [("firm", part) for at, part in firms if at == slot]
         out += steps[slot:slot + 1]
     return out
+
+
+def bare_rows(number, many, longest):
+    """Yields rows of steps in form without faults; many of their firms are left out."""
+    rng = seeded(number)
+    for _ in range(many):
+        steps = busy_steps(rng, rng.randrange(2, longest), 1)
+        share = rng.choice((0.2, 0.7, 1))
+        steps = [step for step in steps if step[0] != "firm" or rng.random() > share]
+        if not faults(steps):
+            yield steps
 
 
 def unserved(steps):
@@ -40,26 +53,26 @@ def firms_of(steps):
 
 class FewestTest(Raising, unittest.TestCase):
     def test_point_113_against_all_choices(self):
-        found = {}
-        for steps in rows(113, 400, 11):
-            if faults(steps):
-                continue
+        found, searched = {}, 0
+        for steps in bare_rows(113, 300, 20):
             told = fewest_firms(steps)
             self.assertIsInstance(told, list)
             # no slot has the log or the sheet beside another part
             self.assertEqual(told, sorted(told, key=lambda one: (one[0], str(one[1]))))
             self.assertTrue(is_right(with_firms(steps, told)))
             parts = sorted({window[0] for window in device_windows(steps)}, key=str)
-            if parts and len(told) and (len(steps) + 1) * len(parts) <= 40:
-                slots = [(slot, part) for slot in range(len(steps) + 1) for part in parts
-                         if isinstance(part, str) or ("lay", part) in steps[:slot]]
+            slots = [(slot, part) for slot in range(len(steps) + 1) for part in parts
+                     if isinstance(part, str) or ("lay", part) in steps[:slot]]
+            if told and math.comb(len(slots), len(told) - 1) <= 2000:
                 for row in itertools.combinations(slots, len(told) - 1):
                     self.assertFalse(is_right(with_firms(steps, row)))
+                searched += len(told) > 1
             found[len(told)] = found.get(len(told), 0) + 1
         self.assertTrue({0, 1, 2, 3} <= set(found), found)
+        self.assertGreater(searched, 20)
 
     def test_point_113_windows_that_share_no_slot(self):
-        for steps in rows(1130, 300, 24):
+        for steps in [*bare_rows(1130, 150, 20), *rows(1131, 150, 24)]:
             if not faults(steps):
                 told, apart = fewest_firms(steps), apart_windows(steps)
                 self.assertEqual(told, [(end, part) for part, _, end in apart])
